@@ -1,0 +1,1 @@
+"""A house that hands messages on: handhouse.desk.answers is the way in."""
