@@ -1,9 +1,9 @@
 """A line, and the channels on it."""
 
 from handhouse.wire import content_bytes
-from handhouse.wire import content_size
 from handhouse.wire import method_bytes
 from handhouse.wire import number_bytes
+from handhouse.wire import size_with_content
 from handhouse.wire import text_bytes
 
 SENT_AT_MOST = 524288
@@ -54,9 +54,8 @@ class Line:
 
     def send_content(self, place, group, method, taken, content):
         """A method and its content are sent together or not at all."""
-        row = method_bytes(place, group, method, taken)
-        if self.fits(len(row) + content_size(content)):
-            self.unsent.extend(row)
+        if self.fits(size_with_content(taken, content)):
+            self.unsent.extend(method_bytes(place, group, method, taken))
             self.unsent.extend(content_bytes(place, content))
 
     def take_unsent(self, most):

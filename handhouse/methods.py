@@ -136,7 +136,7 @@ def make_queue(store, name, bits):
         raise ChannelFault(406)
     if len(name) == 0:
         name = generate_name(store)
-    store.queues[name] = Queue(name)
+    store.queues[name] = Queue()
     return name
 
 

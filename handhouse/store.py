@@ -36,8 +36,7 @@ class Taker:
 class Queue:
     """The messages that wait, and the takers in the order of their turns."""
 
-    def __init__(self, name):
-        self.name = name
+    def __init__(self):
         self.waiting = []
         self.takers = []
 

@@ -8,6 +8,7 @@ HEADER = 2
 BODY = 3
 CONTENT_GROUP = 60
 HEADER_SIZE = 14
+METHOD_SIZE = 4
 AROUND_BODY = 8
 
 
@@ -69,11 +70,11 @@ def content_bytes(place, content):
     return row
 
 
-def content_size(content):
-    """How long content_bytes is, told without building it."""
-    size = HEADER_SIZE + AROUND_BODY
+def size_with_content(taken, content):
+    """How many bytes a method and its content are, told without building them."""
+    size = AROUND_BODY + METHOD_SIZE + len(taken) + AROUND_BODY + HEADER_SIZE
     if len(content) > 0:
-        size = size + len(content) + AROUND_BODY
+        size = size + AROUND_BODY + len(content)
     return size
 
 
@@ -107,8 +108,8 @@ class Reader:
         """A row of bytes behind its length, which has so many bytes itself."""
         return tuple(self.row(number_of(self.row(size))))
 
-    def zeros(self, size):
-        if number_of(self.row(size)) != 0:
+    def empty_table(self):
+        if number_of(self.row(4)) != 0:
             raise Misfit()
         return 0
 
@@ -118,15 +119,13 @@ class Reader:
         if word == "long":
             return self.counted_row(4)
         if word == "table":
-            return self.zeros(4)
-        if word == "empty":
-            return self.zeros(1)
+            return self.empty_table()
         return number_of(self.row(int(word)))
 
 
 def read_parts(form, body):
     """What stands behind class and method, by a form such as "2 text 1 table": just that, or a Misfit."""
-    reader = Reader(body, 4)
+    reader = Reader(body, METHOD_SIZE)
     parts = [reader.part(word) for word in form.split()]
     if reader.at != len(body):
         raise Misfit()

@@ -227,18 +227,13 @@ class WaitingAtMost(unittest.TestCase):
             self.assertEqual(row[-12:] == told, fits)
 
     def test_content_that_just_fits(self):
-        size = len(got(1, 1, "", "r", 0, "abc"))
-        for left, fits in ((size, True), (size - 1, False), (size - 11, False)):
-            talk = up().say(*rows_that_fill(left), declare_queue(1, "r", 16), post(1, "", "r", "abc"), get(1, "r"))
-            self.assertEqual(len(drain(talk)), 524288 - left + (size if fits else 0))
-            self.assertEqual(talk.told()[3], 2)
-
-    def test_empty_content_that_just_fits(self):
-        size = len(got(1, 1, "", "r", 0))
-        for left, fits in ((size, True), (size - 1, False)):
-            talk = up().say(*rows_that_fill(left), declare_queue(1, "r", 16), post(1, "", "r"), get(1, "r"))
-            self.assertEqual(len(drain(talk)), 524288 - left + (size if fits else 0))
-            self.assertEqual(talk.told()[3], 2)
+        for letters in ("abc", "a", ""):
+            size = len(got(1, 1, "", "r", 0, letters))
+            for left, fits in ((size + 1, True), (size, True), (size - 1, False), (size - 11, False)):
+                talk = up().say(*rows_that_fill(left), declare_queue(1, "r", 16), post(1, "", "r", letters))
+                talk.say(get(1, "r"))
+                self.assertEqual(len(drain(talk)), 524288 - left + (size if fits else 0))
+                self.assertEqual(talk.told()[3], 2)
 
     def test_a_smaller_one_still_fits_behind_one_that_is_lost(self):
         talk = up().say(*rows_that_fill(12), declare_queue(1, "another"), limit(1, 5))

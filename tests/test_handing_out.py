@@ -254,6 +254,12 @@ class Limits(unittest.TestCase):
         self.assertEqual(talk.told(), [0, 0, 1, 0, 1])
         self.assertEqual(talk.reply(post(1, "", "q", "d")), gave(4, "d"))
 
+    def test_freely_though_the_channel_has_all_it_may(self):
+        talk = ready(*"abc").say(limit(1, 1), get(1, "q"), consume(1, "q", "t", 8)).add(3, 0, 65536)
+        self.assertEqual(talk.reply(consume(1, "q", "u", 10)), gave(2, "b", tag="u") + gave(3, "c", tag="u"))
+        self.assertEqual(talk.reply(ack(1, 1), post(1, "", "q", "d"), post(1, "", "q", "e")),
+                         gave(4, "d", tag="t") + gave(5, "e", tag="u"))
+
     def test_freely_does_not_count(self):
         talk = ready(*"ab").say(limit(1, 1), consume(1, "q", "u", 10), cancel(1, "u", 1)).add(3, 0, 65536)
         talk.say(consume(1, "q", "t", 8))

@@ -126,6 +126,13 @@ class FaultsOnTheWay(unittest.TestCase):
             for row in (CLOSE_LINE, LINE_CLOSED, channel_open(1), method(0, 20, 10, text("")), method(0, 10, 10)):
                 self.check(done, row)
 
+    def test_what_a_step_takes_behind_another_method(self):
+        for done in range(3):
+            for place, change in ((0, 1), (1, 1), (1, 10), (2, 1), (3, 1), (3, 10)):
+                body = STEPS[done][7:-1]
+                body[place] += change
+                self.check(done, frame(1, 0, body))
+
     def test_too_short_for_a_method(self):
         for done in range(3):
             for size in range(4):

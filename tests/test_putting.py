@@ -222,7 +222,7 @@ class Topics(unittest.TestCase):
             self.assertFalse(answer, pattern)
 
     def test_all_small_ones(self):
-        patterns = [".".join(row) for size in (1, 2, 3) for row in itertools.product("a*#", repeat=size)]
+        patterns = [".".join(row) for size in (1, 2, 3) for row in itertools.product("ab*#", repeat=size)]
         keys = [".".join(row) for size in (1, 2, 3) for row in itertools.product(("a", "b", ""), repeat=size)]
         pairs = [(pattern, key) for pattern in patterns for key in keys]
         for start in range(0, len(pairs), 60):
