@@ -3,8 +3,9 @@
 import itertools
 import unittest
 
+from handhouse.house import House
 from tests.helper import (
-    ack, bind, channel_close, channel_closed, channel_fault, channel_open, channel_opened, consume,
+    WAY_UP, ack, bind, channel_close, channel_closed, channel_fault, channel_open, channel_opened, consume,
     content, declare_exchange, declare_queue, delete_exchange, delete_queue, frame, get, got, got_none,
     header, line_fault, method, num, post, publish, purge, queue_declared, raw, recover, reject, returned, unbind, up,
 )
@@ -93,6 +94,30 @@ class Content(unittest.TestCase):
         self.assertEqual(talk.reply(publish(1, "", "q"), header(1, 65536), frame(3, 1, [5] * 20000)), [])
         self.assertEqual(talk.reply(frame(3, 1, [])), [])
         self.assertEqual(talk.told(), [0, 0, 1, 0, 0])
+
+    def whole_house(self, *rows):
+        """More bytes than one list of calls may hold, handed to a house itself."""
+        house = House()
+        house.open_line(0)
+        house.take_in(0, WAY_UP + channel_open(1) + declare_queue(1, "q", 16))
+        house.give_out(0, 65536)
+        for row in rows:
+            house.take_in(0, row)
+        first = house.give_out(0, 65536)
+        return first[1:] + house.give_out(0, 65536)[1:]
+
+    def test_the_longest(self):
+        letters = [number % 251 for number in range(65536)]
+        expected = got(1, 1, "", "q", 0, letters)
+        self.assertEqual(self.whole_house(post(1, "", "q", letters), get(1, "q")), expected)
+        halves = frame(3, 1, letters[:30000]) + frame(3, 1, letters[30000:])
+        self.assertEqual(self.whole_house(publish(1, "", "q") + header(1, 65536), halves, get(1, "q")), expected)
+
+    def test_the_longest_frame(self):
+        # It's a frame like others, and is refused for being more than the content's length.
+        row = frame(3, 1, [0] * 131064)
+        self.assertEqual(self.whole_house(publish(1, "", "q") + header(1, 65536), row[:131071]), [])
+        self.assertEqual(self.whole_house(publish(1, "", "q") + header(1, 65536), row), line_fault(501, 60, 40))
 
     def test_channels_do_not_mix(self):
         talk = up(channels=(1, 2)).say(declare_queue(1, "q", 16))
